@@ -1,0 +1,121 @@
+"""What ../shared/LANGUAGE.md asks for and a program can see at once: sizes, imports, names."""
+
+import ast
+import builtins
+import os
+import re
+import unittest
+
+PACKAGE = os.path.join(os.path.dirname(os.path.dirname(os.path.abspath(__file__))), 'thinspans')
+
+BUILTINS = set('''len range enumerate zip min max sum abs sorted reversed int str bool bytes list tuple dict set frozenset
+    isinstance ord repr any all divmod iter next map super property staticmethod classmethod object Exception ValueError
+    TypeError KeyError IndexError LookupError ZeroDivisionError ArithmeticError OverflowError RuntimeError
+    NotImplementedError AttributeError StopIteration NotImplemented print'''.split())
+METHODS = set('''append clear copy count endswith extend find get index insert isalnum isalpha isdigit islower isspace
+    isupper items join keys ljust lower lstrip partition pop remove replace reverse rfind rjust rpartition rsplit rstrip
+    setdefault split splitlines startswith strip update upper values zfill bit_length add discard'''.split())
+NEVER = set('''register mro elements open input law version_info type typing enum dataclass overload compile eval exec
+    exit id dir vars super globals locals getattr setattr hasattr'''.split())
+LIBRARY = {'math': {'gcd', 'lcm', 'isqrt', 'comb', 'perm', 'factorial'},
+           'heapq': {'heappush', 'heappop', 'heapify', 'heapreplace', 'heappushpop'},
+           'itertools': {'product', 'combinations', 'permutations'}}
+FORBIDDEN = (ast.Global, ast.AsyncFunctionDef, ast.Await, ast.Div)
+
+
+def sources():
+    for name in sorted(os.listdir(PACKAGE)):
+        if name != '__pycache__':
+            with open(os.path.join(PACKAGE, name), encoding='utf-8') as file:
+                yield name, file.read()
+
+
+def defined(tree):
+    """All functions and classes of a module."""
+    return [node for node in ast.walk(tree) if isinstance(node, (ast.FunctionDef, ast.ClassDef))]
+
+
+class Language(unittest.TestCase):
+
+    def test_sizes_and_characters(self):
+        for name, text in sources():
+            self.assertTrue(re.fullmatch(r'[a-z_]+\.py', name), name)
+            self.assertTrue(all(letter == '\n' or ' ' <= letter <= '~' for letter in text), name)
+            rows = text.split('\n')
+            self.assertLessEqual(len(rows), 399, name)
+            self.assertLessEqual(max(map(len, rows)), 120, name)
+            for node in defined(ast.parse(text)):
+                if isinstance(node, ast.FunctionDef):
+                    self.assertLessEqual(node.end_lineno - node.lineno, 39, f'{name}: {node.name}')
+
+    def test_imports(self):
+        for name, text in sources():
+            for node in ast.walk(ast.parse(text)):
+                self.assertNotIsInstance(node, ast.Import, name)
+                if isinstance(node, ast.ImportFrom):
+                    names = {alias.name for alias in node.names}
+                    self.assertTrue(all(alias.asname is None for alias in node.names), name)
+                    if node.module in LIBRARY:
+                        self.assertLessEqual(names, LIBRARY[node.module], name)
+                        continue
+                    package, module = node.module.split('.')
+                    self.assertEqual(('thinspans', 0), (package, node.level), name)
+                    with open(os.path.join(PACKAGE, module + '.py'), encoding='utf-8') as file:
+                        body = ast.parse(file.read()).body
+                    own = {part.name for part in body if isinstance(part, (ast.FunctionDef, ast.ClassDef))}
+                    own |= {part.targets[0].id for part in body if isinstance(part, ast.Assign)}
+                    self.assertLessEqual(names, own, f'{name}: names that {module} imports itself')
+
+    def test_imports_are_used(self):
+        for name, text in sources():
+            tree = ast.parse(text)
+            used = {node.id for node in ast.walk(tree) if isinstance(node, ast.Name)}
+            for node in ast.walk(tree):
+                if isinstance(node, ast.ImportFrom):
+                    self.assertLessEqual({alias.name for alias in node.names}, used, name)
+
+    def test_no_two_files_import_each_other(self):
+        reach = {name[:-3]: {node.module.split('.')[1] for node in ast.walk(ast.parse(text))
+                             if isinstance(node, ast.ImportFrom) and node.module.startswith('thinspans')}
+                 for name, text in sources()}
+        for _ in reach:
+            reach = {name: near.union(*[reach[other] for other in near]) for name, near in reach.items()}
+        for name, near in reach.items():
+            self.assertNotIn(name, near)
+
+    def test_names(self):
+        own = {node.name for _, text in sources() for node in defined(ast.parse(text))}
+        for name, text in sources():
+            tree = ast.parse(text)
+            fixed = {part.name for part in tree.body if isinstance(part, ast.ClassDef)}
+            for node in tree.body:
+                if isinstance(node, ast.ImportFrom):
+                    fixed |= {alias.name for alias in node.names}
+            for node in ast.walk(tree):
+                bound = []
+                if isinstance(node, ast.Name) and isinstance(node.ctx, ast.Store):
+                    bound = [node.id]
+                elif isinstance(node, ast.arg):
+                    bound = [node.arg]
+                elif isinstance(node, (ast.FunctionDef, ast.ClassDef)) and node.name != '__init__':
+                    bound = [node.name]
+                for one in bound:
+                    self.assertFalse(hasattr(builtins, one) or one in NEVER, f'{name}: {one}')
+                    self.assertTrue(re.fullmatch(r'_|_?[A-Za-z][A-Za-z0-9_]*', one), f'{name}: {one}')
+                    if not isinstance(node, ast.ClassDef):
+                        self.assertNotIn(one, fixed, name)
+                if isinstance(node, ast.Name) and hasattr(builtins, node.id):
+                    self.assertIn(node.id, BUILTINS, name)
+                if isinstance(node, ast.Call) and isinstance(node.func, ast.Attribute):
+                    self.assertIn(node.func.attr, METHODS | own, name)
+
+    def test_statements_and_values(self):
+        for name, text in sources():
+            for node in ast.walk(ast.parse(text)):
+                self.assertNotIsInstance(node, FORBIDDEN, name)
+                if isinstance(node, ast.Constant):
+                    self.assertNotIsInstance(node.value, float, name)
+                    if isinstance(node.value, str):
+                        self.assertNotIn('%', node.value, name)
+                if isinstance(node, ast.Compare) and isinstance(node.ops[0], (ast.Is, ast.IsNot)):
+                    self.assertIsInstance(node.comparators[0], ast.Constant, name)
