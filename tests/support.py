@@ -1,7 +1,10 @@
 """What the tests share: the document's examples, strange values, checks, random traces."""
 
 import inspect
+import random
 import unittest
+
+from tests import oracle
 
 ALONE, FINE, WRONG = ('front', 0, ()), ('front', 0, (('pay', 0, ()),)), ('front', 0, (('pay', 1, ()),))
 KINDS = (ALONE, FINE, WRONG)
@@ -9,6 +12,10 @@ RULES = (('front', ('own', 1, 2)), ('pay', ('bad',)))
 NONE = (0, 1)
 
 BIG = 10 ** 59 + 7
+
+# Of kinds with three kinds.
+NO_QUESTIONS = [0, 1, (), (1,), (1, 2), (1, 2, 3, 4), [1, 2, 3], (1, 2, True), (False, 0, 0), (1, 2, (3, 1)), (1, 2, '3'),
+                (1, 2, None), ((1, 2, 3),), (1, 2, [3]), ((1, 1), (1, 1), (1, 1))]
 
 
 def nested(levels, ground, as_list=False):
@@ -127,3 +134,19 @@ def random_rules(chance, kinds, most=4):
 
 def random_kinds(chance, many, size, services='abcd'):
     return tuple(sorted({random_tree(chance, chance.randint(1, size), services) for _ in range(many)}))
+
+
+def setups(seed, many, size=5, kinds=4):
+    """So many random kinds and rules, each with a random.Random."""
+    chance = random.Random(seed)
+    for _ in range(many):
+        some = random_kinds(chance, chance.randint(1, kinds), size, chance.choice(['a', 'ab', 'abcd']))
+        yield chance, some, random_rules(chance, some)
+
+
+def questions(chance, kinds, rules, many=4):
+    """Some questions, some of which are told."""
+    found = [tuple(chance.randint(-9, 9) for _ in kinds) for _ in range(many)]
+    for column in oracle.transposed(oracle.chance_rows(kinds, rules))[:many]:
+        found.append(tuple(int(entry * 64 * 27 * 27) for entry in column))
+    return [tuple(0 for _ in kinds)] + found

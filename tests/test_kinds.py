@@ -111,7 +111,8 @@ class Kinds(Case):
             (('top', ALONE), ('top', FINE)), (('top', ALONE), ('top', ALONE)), (('lost', ()),), (('lost', (BAD_LEAF, LEAF)),),
             (('lost', (WRONG, ALONE)),), (far, lost), (('top', ALONE), lost), (('lost', LEAF),), (('lost', [LEAF]),),
             (('top', (ALONE,)),), (('top',),), (('top', ALONE, ()),), ('top', ALONE), [('top', ALONE)], (['top', ALONE],),
-            (('Top', ALONE),), (('kept', ALONE),), ((0, ALONE),), ((None, None),), (('top', None),), (('lost', None),),
+            (('Top', ALONE),), (('kept', ALONE),), (('kept', (LEAF,)),), (('', (LEAF,)),), ((0, (LEAF,)),), (('Lost', (LEAF,)),),
+            (('top', (LEAF,)),), ((0, ALONE),), ((None, None),), (('top', None),), (('lost', None),),
             (('top', ('front', True, ())),), (('lost', (('pay', False, ()),)),), (lost, None), ((),), (('lost', (LEAF, None)),),
             (('top', ('front', 0, (BAD_LEAF, LEAF))),), (('lost', (('pay', 2, ()),)),)])
         self.holds_only(is_sight, [])

@@ -5,7 +5,7 @@ from math import lcm
 from thinspans.fractions import ONE, ZERO, is_less, made, minus, times
 from thinspans.ordering import ascending
 from thinspans.rules import rule_of
-from thinspans.shapes import placed_subtrees, subtrees_of
+from thinspans.shapes import subtrees_of
 
 
 def plains_of(rule):
@@ -45,9 +45,8 @@ def rule_chance(rule, bad, late, called, draw):
 def span_chances(tree, rules, draw):
     """For each span the pair of its chances if its caller is not kept, and if it is."""
     late = has_bad(tree)
-    return [tuple([rule_chance(rule_of(rules, here[0]), here[1] == 1, late, path != () and called, draw)
-                   for called in (False, True)])
-            for path, here in placed_subtrees(tree)]
+    return [tuple([rule_chance(rule_of(rules, here[0]), here[1] == 1, late, called, draw) for called in (False, True)])
+            for here in subtrees_of(tree)]
 
 
 def draw_ranges(rules):

@@ -38,7 +38,7 @@ def is_kinds(thing):
 
 def is_plain(thing):
     """Whether it is a plain rule."""
-    if not isinstance(thing, tuple) or not thing:
+    if not isinstance(thing, tuple):
         return False
     if len(thing) == 1:
         return thing[0] in ("never", "caller", "bad", "late")

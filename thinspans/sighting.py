@@ -44,6 +44,7 @@ def sights_of(tree, rules):
     """The tuple of the pairs (sight, chance) of all sights that the trace may have."""
     found = []
     for low, width in draw_ranges(rules):
+        # A top is as a span whose caller is not kept.
         outcomes = closed(tree_outcomes(tree, span_chances(tree, rules, low))[0], "top")
         found = found + [(sight, times(width, chance)) for sight, chance in as_sights(outcomes)]
     return tuple(mixed(found))

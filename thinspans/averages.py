@@ -1,0 +1,42 @@
+"""What is seen of a crowd on the average, and which kinds look alike."""
+
+from thinspans.chances import chance_table, columns_of, nonzero_pairs
+from thinspans.crowds import check_crowd
+from thinspans.fractions import dot, made, sum_of, times
+from thinspans.shapes import subtrees_of
+from thinspans.sighting import chance_of, sights_of
+from thinspans.trees import services_of
+
+
+def expected(kinds, rules, crowd):
+    """The ascending tuple of the pairs (sight, how often it is seen of the crowd on the average)."""
+    check_crowd(kinds, crowd)
+    sights, table = chance_table(kinds, rules)
+    many = [made(number, 1) for number in crowd]
+    return nonzero_pairs(sights, [dot(many, column) for column in columns_of(table)])
+
+
+def unseen(kinds, rules, crowd):
+    """The average number of traces of the crowd that are not seen."""
+    check_crowd(kinds, crowd)
+    return sum_of([times(made(number, 1), chance_of(kind, rules, ())) for kind, number in zip(kinds, crowd)])
+
+
+def kept_spans(kinds, rules, crowd):
+    """The pairs (service, how many of its spans are kept on the average) of all services."""
+    seen = expected(kinds, rules, crowd)
+    return tuple([(service, sum_of([times(made(spans_with(sight, service), 1), often) for sight, often in seen]))
+                  for service in services_of(kinds)])
+
+
+def spans_with(sight, service):
+    """How many spans of this service are in the sight."""
+    trees = [tree for word, held in sight for tree in ((held,) if word == "top" else held)]
+    return len([here for tree in trees for here in subtrees_of(tree) if here[0] == service])
+
+
+def look_alikes(kinds, rules):
+    """The sets of the indexes of kinds that have the same chances of all sights, ascending."""
+    looks = [sights_of(kind, rules) for kind in kinds]
+    firsts = [k for k, look in enumerate(looks) if looks.index(look) == k]
+    return tuple([tuple([k for k, look in enumerate(looks) if look == looks[first]]) for first in firsts])
