@@ -49,6 +49,8 @@ def same(one, other):
 
 def named(function, args):
     """The arguments by the names of the parameters, or None where one goes behind a star."""
+    if function is str:
+        return None
     parameters = list(inspect.signature(function).parameters.values())
     plain = [p for p in parameters if p.kind == p.POSITIONAL_OR_KEYWORD]
     if len(args) > len(plain):
@@ -91,6 +93,17 @@ class Case(unittest.TestCase):
         self.assertIs(type(thing), tuple)
         self.assertEqual([int, int], [type(part) for part in thing])
         self.assertGreaterEqual(thing[1], 1)
+
+
+def spoiled(chance, thing, others=()):
+    """The value with something in it exchanged, put in another order, doubled or left out, or as it is."""
+    if isinstance(thing, tuple) and thing and chance.random() < 0.75:
+        place = chance.randrange(len(thing))
+        return thing[:place] + (spoiled(chance, thing[place], others),) + thing[place + 1:]
+    ways = [thing, 0, 1, 2, -1, True, False, None, '', 'a', (), [], *others]
+    if isinstance(thing, tuple):
+        ways += [list(thing), thing[::-1], thing + thing, thing[1:], thing + thing[:1], tuple(sorted(thing, key=repr))]
+    return chance.choice(ways)
 
 
 def random_tree(chance, size, services='abcd', bad=0.4):

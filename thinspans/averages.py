@@ -1,8 +1,8 @@
 """What is seen of a crowd on the average, and which kinds look alike."""
 
-from thinspans.chances import chance_table, columns_of, nonzero_pairs
+from thinspans.chances import chance_table, columns_of, nonzero_pairs, often_of
 from thinspans.crowds import check_crowd
-from thinspans.fractions import dot, made, sum_of, times
+from thinspans.fractions import dot, whole_fractions
 from thinspans.shapes import subtrees_of
 from thinspans.sighting import chance_of, sights_of
 from thinspans.trees import services_of
@@ -12,20 +12,20 @@ def expected(kinds, rules, crowd):
     """The ascending tuple of the pairs (sight, how often it is seen of the crowd on the average)."""
     check_crowd(kinds, crowd)
     sights, table = chance_table(kinds, rules)
-    many = [made(number, 1) for number in crowd]
-    return nonzero_pairs(sights, [dot(many, column) for column in columns_of(table)])
+    return nonzero_pairs(sights, often_of(columns_of(table), crowd))
 
 
 def unseen(kinds, rules, crowd):
     """The average number of traces of the crowd that are not seen."""
     check_crowd(kinds, crowd)
-    return sum_of([times(made(number, 1), chance_of(kind, rules, ())) for kind, number in zip(kinds, crowd)])
+    return dot(whole_fractions(crowd), [chance_of(kind, rules, ()) for kind in kinds])
 
 
 def kept_spans(kinds, rules, crowd):
     """The pairs (service, how many of its spans are kept on the average) of all services."""
     seen = expected(kinds, rules, crowd)
-    return tuple([(service, sum_of([times(made(spans_with(sight, service), 1), often) for sight, often in seen]))
+    often = [some for _, some in seen]
+    return tuple([(service, dot(whole_fractions([spans_with(sight, service) for sight, _ in seen]), often))
                   for service in services_of(kinds)])
 
 

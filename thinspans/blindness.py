@@ -3,7 +3,7 @@
 from thinspans.chances import chance_table, columns_of
 from thinspans.crowds import check_crowd, check_difference, check_question
 from thinspans.equations import null_base, rank_of, solution
-from thinspans.fractions import ZERO, dot, made
+from thinspans.fractions import ZERO, dot, made, whole_fractions
 
 
 def is_blind(kinds, rules, difference):
@@ -42,7 +42,3 @@ def told_with(kinds, rules, question, *others):
     known = [whole_fractions(other) for other in others]
     rows = [chances + [row[k] for row in known] + [made(question[k], 1)] for k, chances in enumerate(table)]
     return solution(rows, len(rows[0]) - 1) is not None
-
-
-def whole_fractions(integers):
-    return [made(integer, 1) for integer in integers]

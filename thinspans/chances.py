@@ -1,6 +1,6 @@
 """The table of the chances that kinds have of sights, and fractions for sights."""
 
-from thinspans.fractions import ZERO
+from thinspans.fractions import ZERO, dot, whole_fractions
 from thinspans.ordering import ascending
 from thinspans.sighting import sights_of
 
@@ -38,3 +38,9 @@ def nonzero_pairs(sights, fractions):
 def columns_of(table):
     """For each sight the list of its chances by the kinds."""
     return [[row[at] for row in table] for at in range(len(table[0]))]
+
+
+def often_of(columns, crowd):
+    """For each column of the table how often its sight is seen of the crowd on the average."""
+    many = whole_fractions(crowd)
+    return [dot(many, column) for column in columns]

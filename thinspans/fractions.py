@@ -54,6 +54,11 @@ def total_of(question, crowd):
     return sum([integer * number for integer, number in zip(question, crowd)])
 
 
+def whole_fractions(integers):
+    """The list of the integers as fractions."""
+    return [(integer, 1) for integer in integers]
+
+
 def sum_of(fractions):
     """The sum of a list of fractions."""
     total = ZERO

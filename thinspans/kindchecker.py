@@ -42,6 +42,15 @@ def lets_rules(kinds, thing):
     return len(thing)
 
 
+def is_rules(kinds, thing):
+    """Whether any value is rules of the kinds."""
+    try:
+        lets_rules(kinds, thing)
+    except InvalidPaper:
+        return False
+    return True
+
+
 def has_pair_shape(thing):
     if not isinstance(thing, tuple) or len(thing) != 2:
         return False

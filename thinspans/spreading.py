@@ -1,10 +1,10 @@
 """The spread of weights in a crowd, and the weights of least spread."""
 
-from thinspans.chances import chance_table, columns_of, fractions_for, nonzero_pairs
+from thinspans.chances import chance_table, columns_of, fractions_for, nonzero_pairs, often_of
 from thinspans.crowds import check_crowd, check_question, check_weights
 from thinspans.equations import pivot_columns, solution
 from thinspans.errors import NotTold
-from thinspans.fractions import ZERO, dot, made, minus, over, sum_of, times
+from thinspans.fractions import ZERO, dot, made, minus, over, times, whole_fractions
 
 
 def spread(kinds, rules, weights, crowd):
@@ -12,14 +12,18 @@ def spread(kinds, rules, weights, crowd):
     sights, table = chance_table(kinds, rules)
     check_weights(sights, weights)
     check_crowd(kinds, crowd)
-    along = fractions_for(sights, weights)
-    return sum_of([times(made(number, 1), variance(chances, along)) for chances, number in zip(table, crowd)])
+    return spread_along(table, fractions_for(sights, weights), crowd)
 
 
-def variance(chances, weights):
+def spread_along(table, along, crowd):
+    """The spread in the crowd, the weights being those of the columns of the table."""
+    return dot(whole_fractions(crowd), [variance(chances, along) for chances in table])
+
+
+def variance(chances, along):
     """The variance of the weight of what is seen of one trace."""
-    mean = dot(chances, weights)
-    return minus(dot(chances, [times(weight, weight) for weight in weights]), times(mean, mean))
+    mean = dot(chances, along)
+    return minus(dot(chances, [times(weight, weight) for weight in along]), times(mean, mean))
 
 
 def least_weights(kinds, rules, question, crowd):
@@ -27,17 +31,26 @@ def least_weights(kinds, rules, question, crowd):
     check_question(kinds, question)
     check_crowd(kinds, crowd)
     sights, table = chance_table(kinds, rules)
-    columns = columns_of(table)
-    often = [dot([made(number, 1) for number in crowd], column) for column in columns]
-    idle = idle_places(table, often)
-    found = solution(least_rows(columns, often, idle, question), len(kinds) + len(idle))
+    found = least_along(table, question, crowd)
     if found is None:
         raise NotTold(question)
-    multipliers = found[:len(kinds)]
-    along = [over(dot(multipliers, column), some) if some != ZERO else ZERO for column, some in zip(columns, often)]
-    for place, weight in zip(idle, found[len(kinds):]):
-        along[place] = weight
+    along, multipliers = found
     return nonzero_pairs(sights, along), tuple(multipliers)
+
+
+def least_along(table, question, crowd):
+    """As least_weights, the weights being those of the columns of the table; None if the question is not told."""
+    columns = columns_of(table)
+    often = often_of(columns, crowd)
+    idle = idle_places(table, often)
+    found = solution(least_rows(columns, often, idle, question), len(table) + len(idle))
+    if found is None:
+        return None
+    multipliers = found[:len(table)]
+    along = [over(dot(multipliers, column), some) if some != ZERO else ZERO for column, some in zip(columns, often)]
+    for place, weight in zip(idle, found[len(table):]):
+        along[place] = weight
+    return along, multipliers
 
 
 def idle_places(table, often):
