@@ -48,8 +48,8 @@ def kept_for(tree, rules, low, luck):
     return kept
 
 
-def sight_chances(tree, rules):
-    """A dict from the sights to their chances, by trying all draws."""
+def kept_chances(tree, rules):
+    """A dict from the sets of kept paths to their chances, by trying all draws."""
     owns = [((path, which), Fraction(plain[1], plain[2])) for path, service, _ in all_paths(tree)
             for which, plain in enumerate(plain_rules(dict(rules)[service])) if plain[0] == 'own']
     bounds = sorted({Fraction(0), Fraction(1)} | {Fraction(plain[1], plain[2]) for _, rule in rules
@@ -62,8 +62,29 @@ def sight_chances(tree, rules):
                 chance *= part if yes else 1 - part
             if chance:
                 luck = {key: yes for (key, _), yes in zip(owns, says)}
-                sight = kept_sight(tree, kept_for(tree, rules, low, luck))
-                found[sight] = found.get(sight, 0) + chance
+                kept = frozenset(kept_for(tree, rules, low, luck))
+                found[kept] = found.get(kept, 0) + chance
+    return found
+
+
+def sight_chances(tree, rules):
+    """A dict from the sights to their chances."""
+    found = {}
+    for kept, chance in kept_chances(tree, rules).items():
+        sight = kept_sight(tree, kept)
+        found[sight] = found.get(sight, 0) + chance
+    return found
+
+
+def part_chances(tree, rules, collectors):
+    """A dict from the part sights to their chances: each collector sees the kept spans of its services."""
+    services = {path: service for path, service, _ in all_paths(tree)}
+    found = {}
+    for kept, chance in kept_chances(tree, rules).items():
+        for g, some in enumerate(collectors):
+            part = kept_sight(tree, {path for path in kept if services[path] in some})
+            if part != ():
+                found[g, part] = found.get((g, part), 0) + chance
     return found
 
 

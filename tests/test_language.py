@@ -83,7 +83,7 @@ def changes(function):
         elif isinstance(node, ast.Call) and isinstance(node.func, ast.Attribute) and node.func.attr in CHANGING:
             if not (isinstance(node.func.value, ast.Name) and node.func.value.id in mine):
                 yield node
-        elif isinstance(node, ast.AugAssign) and not (isinstance(node.value, ast.Constant) and isinstance(node.op, ast.Add)):
+        elif isinstance(node, ast.AugAssign) and not (isinstance(node.value, ast.Constant) and isinstance(node.op, (ast.Add, ast.Sub))):
             yield node
 
 

@@ -7,9 +7,13 @@ from thinspans.sighting import sights_of
 
 def chance_table(kinds, rules):
     """The pair of the set of the sights and, for each kind, the list of its chances of them."""
-    seen = [seen_of(kind, rules) for kind in kinds]
-    sights = tuple(ascending([sight for pairs in seen for sight, _ in pairs]))
-    return sights, [fractions_for(sights, pairs) for pairs in seen]
+    return table_of([seen_of(kind, rules) for kind in kinds])
+
+
+def table_of(seen):
+    """The set of what is seen and, for each kind, its chances; seen has its ascending pairs (thing, chance)."""
+    things = tuple(ascending([thing for pairs in seen for thing, _ in pairs]))
+    return things, [fractions_for(things, pairs) for pairs in seen]
 
 
 def seen_of(kind, rules):
