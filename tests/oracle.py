@@ -1,6 +1,7 @@
 """The definitions of the document, worked out once more in the plainest way, by trying all there is."""
 
 from fractions import Fraction
+from functools import lru_cache
 from itertools import product
 
 
@@ -48,6 +49,7 @@ def kept_for(tree, rules, low, luck):
     return kept
 
 
+@lru_cache(maxsize=None)
 def kept_chances(tree, rules):
     """A dict from the sets of kept paths to their chances, by trying all draws."""
     owns = [((path, which), Fraction(plain[1], plain[2])) for path, service, _ in all_paths(tree)
@@ -67,6 +69,7 @@ def kept_chances(tree, rules):
     return found
 
 
+@lru_cache(maxsize=None)
 def sight_chances(tree, rules):
     """A dict from the sights to their chances."""
     found = {}
