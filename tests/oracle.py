@@ -2,7 +2,7 @@
 
 from fractions import Fraction
 from functools import lru_cache
-from itertools import product
+from itertools import combinations, product
 
 
 def all_paths(tree, path=()):
@@ -152,3 +152,53 @@ def spread_of(kinds, rules, weights, crowd):
         mean = sum(chance * value for chance, value in values)
         total += number * sum(chance * (value - mean) ** 2 for chance, value in values)
     return total
+
+
+def null_space(rows, width):
+    """Lists of numbers, as few as possible, of which all that give 0 with each row are sums of fractions."""
+    solved = []
+    for row in rows:
+        row = [Fraction(entry) for entry in row]
+        for place, other in solved:
+            row = [a - row[place] * b for a, b in zip(row, other)]
+        place = next((k for k in range(width) if row[k]), None)
+        if place is not None:
+            row = [entry / row[place] for entry in row]
+            solved = [(k, [a - other[place] * b for a, b in zip(other, row)]) for k, other in solved] + [(place, row)]
+    found = []
+    for free in set(range(width)) - {place for place, _ in solved}:
+        one = [Fraction(int(k == free)) for k in range(width)]
+        for place, row in solved:
+            one[place] = -row[free]
+        found.append(one)
+    return found
+
+
+@lru_cache(maxsize=None)
+def upward_rays(kinds, rules):
+    """Upward differences, with fractions, of which all upward ones are sums times numbers from 0 on.
+
+    All blind ones and their opposites; and each that is 0 at as many sights as can be without being
+    blind, the blind ones taken off it.
+    """
+    columns = sorted({tuple(entry / sum(column) for entry in column) for column in transposed(chance_rows(kinds, rules))})
+    blind = null_space(columns, len(kinds))
+    found = blind + [[-entry for entry in one] for one in blind]
+    rest = len(kinds) - len(blind) - 1
+    for some in combinations(columns, rest) if rest >= 0 else ():
+        ways = null_space(list(some) + blind, len(kinds))
+        if len(ways) == 1:
+            for sign in (1, -1):
+                one = [sign * entry for entry in ways[0]]
+                if all(sum(a * b for a, b in zip(one, column)) >= 0 for column in columns):
+                    found.append(one)
+    return found
+
+
+def fairly_told(kinds, rules, question):
+    """Whether no upward difference has a sum with the question below 0."""
+    return all(sum(a * b for a, b in zip(one, question)) >= 0 for one in upward_rays(kinds, rules))
+
+
+def is_upward(kinds, rules, difference):
+    return all(sum(a * b for a, b in zip(difference, column)) >= 0 for column in transposed(chance_rows(kinds, rules)))

@@ -89,6 +89,18 @@ class Case(unittest.TestCase):
             for name, value in vars(error).items():
                 self.assertTrue(same(value, getattr(result, name)), f'{function.__name__}{args!r}: {vars(result)}')
 
+    def outcome(self, action):
+        """What the action returns, or the error that it raises."""
+        try:
+            return action()
+        except Exception as error:
+            return error
+
+    def fails_so(self, error, action):
+        result = self.outcome(action)
+        self.assertIs(type(error), type(result), repr(result))
+        self.assertTrue(same(list(vars(error).items()), list(vars(result).items())), vars(result))
+
     def is_plain_fraction(self, thing):
         self.assertIs(type(thing), tuple)
         self.assertEqual([int, int], [type(part) for part in thing])

@@ -46,17 +46,6 @@ def new_book(questions=ASKED):
 
 class BookCase(Case):
 
-    def outcome(self, action):
-        try:
-            return action()
-        except Exception as error:
-            return error
-
-    def fails_so(self, error, action):
-        result = self.outcome(action)
-        self.assertIs(type(error), type(result), repr(result))
-        self.assertTrue(same(list(vars(error).items()), list(vars(result).items())), vars(result))
-
     def state(self, book):
         """All that a book shows, but for the counts of operations."""
         return (book.kinds, book.rules, book.questions, book.totals, book.epochs, len(book), book.log(), str(book), book.table(),

@@ -198,11 +198,12 @@ class Classes(unittest.TestCase):
 
     def test_names_of_properties(self):
         others = {method.name for _, node in classes() for method in methods(node) if 'property' not in marked(method)}
-        self.assertEqual(set(), properties() & (others | OF_BUILTINS))
+        known = properties()
+        self.assertEqual(set(), known & (others | OF_BUILTINS))
         for name, text in sources():
             for node in ast.walk(ast.parse(text)):
                 if isinstance(node, ast.Attribute) and isinstance(node.ctx, ast.Store):
-                    self.assertNotIn(node.attr, properties() | others, name)
+                    self.assertNotIn(node.attr, known | others, name)
 
     def test_attributes_are_assigned(self):
         stored, read = set(), {}

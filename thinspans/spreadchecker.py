@@ -1,11 +1,11 @@
 """The checker of papers about the least spread."""
 
-from thinspans.asking import first_untold
 from thinspans.chances import chance_table, columns_of, fractions_for, often_of
 from thinspans.crowds import check_crowd, check_question, is_weights
 from thinspans.errors import InvalidPaper
 from thinspans.fractions import dot, times
 from thinspans.kinds import is_fraction
+from thinspans.papers import are_weighted, check_sums
 from thinspans.spreading import spread_along
 
 
@@ -20,9 +20,7 @@ def lets_spread(kinds, rules, question, crowd, thing):
     if not is_weights(sights, weights):
         raise InvalidPaper("weights", -1)
     along = fractions_for(sights, weights)
-    wrong = first_untold(table, along, question)
-    if wrong is not None:
-        raise InvalidPaper("tells", wrong)
+    check_sums(table, along, question, "tells")
     if len(multipliers) != len(kinds):
         raise InvalidPaper("many", -1)
     check_multipliers(table, along, crowd, multipliers)
@@ -34,13 +32,6 @@ def has_paper_shape(thing):
         return False
     weights, multipliers = thing
     return are_weighted(weights) and isinstance(multipliers, tuple) and all([is_fraction(part) for part in multipliers])
-
-
-def are_weighted(thing):
-    """Whether it is a tuple of pairs (any value, fraction)."""
-    if not isinstance(thing, tuple):
-        return False
-    return all([isinstance(pair, tuple) and len(pair) == 2 and is_fraction(pair[1]) for pair in thing])
 
 
 def check_multipliers(table, along, crowd, multipliers):
