@@ -3,7 +3,7 @@
 from thinspans.chances import chance_table, columns_of, nonzero_pairs, often_of
 from thinspans.crowds import check_crowd
 from thinspans.fractions import dot, whole_fractions
-from thinspans.shapes import subtrees_of
+from thinspans.shapes import subtrees_in_sight
 from thinspans.sighting import chance_of, sights_of
 from thinspans.trees import services_of
 
@@ -31,8 +31,7 @@ def kept_spans(kinds, rules, crowd):
 
 def spans_with(sight, service):
     """How many spans of this service are in the sight."""
-    trees = [tree for word, held in sight for tree in ((held,) if word == "top" else held)]
-    return len([here for tree in trees for here in subtrees_of(tree) if here[0] == service])
+    return len([here for here in subtrees_in_sight(sight) if here[0] == service])
 
 
 def look_alikes(kinds, rules):

@@ -1,9 +1,10 @@
 """Which differences are blind, and what is told all the same."""
 
+from thinspans.asking import along_for
 from thinspans.chances import chance_table, columns_of
 from thinspans.crowds import check_crowd, check_difference, check_question
-from thinspans.equations import null_base, rank_of, solution
-from thinspans.fractions import ZERO, dot, made, whole_fractions
+from thinspans.equations import null_base, rank_of
+from thinspans.fractions import ZERO, dot, whole_fractions
 
 
 def is_blind(kinds, rules, difference):
@@ -23,8 +24,19 @@ def are_alike(kinds, rules, crowd, other):
 
 def how_many_told(kinds, rules):
     """The greatest number of told questions none of which is a sum of fractions of the others."""
-    sights, table = chance_table(kinds, rules)
-    return rank_of(table, len(sights))
+    return rank_with(chance_table(kinds, rules)[1], ())
+
+
+def rank_with(table, known):
+    """The same, by the table of the chances, if the totals of known questions can be told, too."""
+    rows = rows_with(table, known)
+    return rank_of(rows, len(rows[0]))
+
+
+def rows_with(table, known):
+    """The rows of the table, each with the integers of the known questions behind it."""
+    columns = [whole_fractions(question) for question in known]
+    return [chances + [column[k] for column in columns] for k, chances in enumerate(table)]
 
 
 def blind_base(kinds, rules):
@@ -38,7 +50,9 @@ def told_with(kinds, rules, question, *others):
     check_question(kinds, question)
     for other in others:
         check_question(kinds, other)
-    _, table = chance_table(kinds, rules)
-    known = [whole_fractions(other) for other in others]
-    rows = [chances + [row[k] for row in known] + [made(question[k], 1)] for k, chances in enumerate(table)]
-    return solution(rows, len(rows[0]) - 1) is not None
+    return is_told_with(chance_table(kinds, rules)[1], question, others)
+
+
+def is_told_with(table, question, known):
+    """The same, by the table of the chances, for values that are questions."""
+    return along_for(rows_with(table, known), question) is not None

@@ -47,6 +47,12 @@ def subtrees_of(tree):
     return found
 
 
+def subtrees_in_sight(sight):
+    """The list of the subtrees of all spans in the sight."""
+    trees = [tree for word, held in sight for tree in ((held,) if word == "top" else held)]
+    return [here for tree in trees for here in subtrees_of(tree)]
+
+
 def is_service_name(text):
     return 1 <= len(text) <= 8 and all([letter in "abcdefghijklmnopqrstuvwxyz" for letter in text])
 

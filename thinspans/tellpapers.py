@@ -10,8 +10,15 @@ def tell_paper(kinds, rules, question):
     weights = weights_for(kinds, rules, question)
     if weights is not None:
         return ("weights", weights)
-    # What is not told has a sum other than 0 with some difference of each base of the blind ones.
-    seen = [difference for difference in blind_base(kinds, rules) if total_of(question, difference) != 0]
-    more = tuple([max(0, integer) for integer in seen[0]])
-    fewer = tuple([max(0, -integer) for integer in seen[0]])
+    more, fewer = two_crowds(blind_base(kinds, rules), question)
     return ("crowds", more, fewer)
+
+
+def two_crowds(base, question):
+    """Two crowds with different totals of a question that is not told; their difference is one of the base,
+    which consists of differences that cannot be seen, as few as those of all which cannot."""
+    # What is not told has a sum other than 0 with some difference of each such base.
+    unlike = [difference for difference in base if total_of(question, difference) != 0]
+    more = tuple([max(0, integer) for integer in unlike[0]])
+    fewer = tuple([max(0, -integer) for integer in unlike[0]])
+    return more, fewer

@@ -73,7 +73,8 @@ def rules_line(rules):
 
 
 def setup_text(kinds, rules):
-    return "\n".join([kind_line(kind) for kind in kinds] + [rules_line(rules)])
+    lines = [kind_line(kind) for kind in kinds]
+    return "\n".join([*lines, rules_line(rules)])
 
 
 def question_text(question):
